@@ -175,47 +175,97 @@ func texts(list [][]byte) []string {
 	return out
 }
 
-// wanted is what may stand next, how deep: 'c' a concept, 'r' a role, or a bracket.
+// wanted is what may stand next, how deep: 'x' an axiom, 'c' a concept, 'r' a role, 'i' an individual, or a bracket.
 type wanted struct {
 	what byte
 	deep int
 }
 
-// placeByStack reads with a stack of what is still wanted: another way to the place than the program's.
-func placeByStack(text string) int {
-	if len(text) > impl.MaxText {
-		return 0
+// tally is what was met on the way: words by what they stand for, and how many parts each outermost concept has.
+type tally struct {
+	axioms             int
+	names, roles, inds []string
+	parts              []int
+}
+
+var kindOfWanted = map[byte]int{'x': impl.TkUpper, 'c': impl.TkUpper, 'r': impl.TkLower, 'i': impl.TkLower, '(': impl.TkOpen, ')': impl.TkClose}
+
+var behindConcept = map[string]string{"Top": "", "Bot": "", "Not": "(c)", "And": "(cc)", "Or": "(cc)", "Some": "(rc)", "All": "(rc)"}
+
+var behindAxiom = map[string]string{"Sub": "(cc)", "Eq": "(cc)", "Dis": "(cc)", "Role": "(rr)", "Is": "(ic)", "Rel": "(rii)"}
+
+// meet tells what must stand behind a word of which the kind is right, and whether it may stand there.
+func (n *tally) meet(next wanted, word string) (string, bool) {
+	switch next.what {
+	case 'x':
+		n.axioms++
+		behind, known := behindAxiom[word]
+		return behind, known
+	case 'c':
+		if next.deep == 1 {
+			n.parts = append(n.parts, 0)
+		}
+		n.parts[len(n.parts)-1]++
+		behind, known := behindConcept[word]
+		if !known {
+			n.names = append(n.names, word)
+		}
+		return behind, next.deep <= impl.MaxDeep && (known || !slices.Contains(keptWords, word))
+	case 'r':
+		n.roles = append(n.roles, word)
+	case 'i':
+		n.inds = append(n.inds, word)
 	}
+	return "", true
+}
+
+// readByStack reads with a stack of what is still wanted: another way to the place than the program's.
+// Where that is an axiom, any number of them may stand. It takes texts that are too long, too.
+func readByStack(text string, first wanted) (*tally, int) {
+	n := &tally{}
 	list, bad := tokensByPattern(text)
 	if bad != -1 {
-		return bad
+		return n, bad
 	}
-	parts, stack := 0, []wanted{{'c', 1}}
+	var stack []wanted
+	if first.what != 'x' {
+		stack = append(stack, first)
+	}
 	for _, k := range list {
+		if len(stack) == 0 && first.what == 'x' {
+			stack = append(stack, first)
+		}
 		if len(stack) == 0 {
-			return k.At
+			return n, k.At
 		}
 		next := stack[len(stack)-1]
 		stack = stack[:len(stack)-1]
-		if strings.IndexByte("?cr()", next.what) != map[int]int{impl.TkUpper: 1, impl.TkLower: 2, impl.TkOpen: 3, impl.TkClose: 4}[k.Kind] {
-			return k.At
+		if kindOfWanted[next.what] != k.Kind {
+			return n, k.At
 		}
-		if next.what != 'c' {
-			continue
-		}
-		parts++
-		behind, known := map[string]string{"Top": "", "Bot": "", "Not": "(c)", "And": "(cc)", "Or": "(cc)", "Some": "(rc)", "All": "(rc)"}[string(k.Text)]
-		if next.deep > impl.MaxDeep || !known && slices.Contains(keptWords, string(k.Text)) {
-			return k.At
+		behind, may := n.meet(next, string(k.Text))
+		if !may {
+			return n, k.At
 		}
 		for i := len(behind) - 1; i >= 0; i-- {
 			stack = append(stack, wanted{behind[i], next.deep + 1})
 		}
 	}
-	if len(stack) > 0 || parts > impl.MaxParts {
+	if len(stack) > 0 {
+		return n, len(text)
+	}
+	return n, -1
+}
+
+func placeByStack(text string) int {
+	n, bad := readByStack(text, wanted{'c', 1})
+	if len(text) > impl.MaxText {
+		return 0
+	}
+	if bad == -1 && n.parts[0] > impl.MaxParts {
 		return len(text)
 	}
-	return -1
+	return bad
 }
 
 func checkRead(t *testing.T, text string) {
