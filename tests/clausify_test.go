@@ -583,27 +583,19 @@ func roundCon() impl.Con {
 	return kids[0]
 }
 
-func TestClausifyOfWhatIsNotOk(t *testing.T) {
-	big := readCon(t, "Some(a Some(b Some(c Some(d Top))))")
-	fine := fullKb()
-	wantCode(t, fine, top, impl.ClWell, "fine")
-	var wrong []impl.Con
+// refusedCons are not ConOk, some of them round about or wide.
+func refusedCons() []impl.Con {
+	var list []impl.Con
 	for _, c := range []impl.Con{top, bot, named("A"), not(named("A")), and(top, bot), or(named("A"), top), some("r", top), every("r", named("A"))} {
-		wrong = append(wrong, spoils(c)...)
+		list = append(list, spoils(c)...)
 	}
-	wrong = append(append(wrong, tooBig()...), roundCon(), impl.Con{Kind: impl.CnAnd, Kids: make([]impl.Con, 1<<20)})
-	for i, c := range wrong {
-		why := fmt.Sprint("the wrong concept ", i)
-		wantCode(t, impl.Kb{}, c, impl.ClForm, why)
-		wantCode(t, fine, c, impl.ClForm, why)
-		wantCode(t, told(is("x", c)), top, impl.ClForm, why)
-		wantCode(t, told(sub(top, c)), top, impl.ClForm, why)
-		// ClForm comes ahead of ClBig.
-		wantCode(t, told(is("x", c)), big, impl.ClForm, why)
-		wantCode(t, told(is("x", big)), c, impl.ClForm, why)
-	}
+	return append(append(list, tooBig()...), roundCon(), impl.Con{Kind: impl.CnAnd, Kids: make([]impl.Con, 1<<20)})
+}
+
+// refusedKbs are not KbOk by each of its reasons.
+func refusedKbs() []impl.Kb {
 	a := func(s string) impl.Axiom { return is("x", named(s)) }
-	for i, k := range []impl.Kb{
+	return []impl.Kb{
 		told(slices.Repeat([]impl.Axiom{a("A")}, impl.MaxAxioms+1)...),
 		{L: make([]impl.Axiom, 1<<20)},
 		told(a("A"), a("B"), a("C"), a("D"), a("E"), a("F")),
@@ -614,8 +606,25 @@ func TestClausifyOfWhatIsNotOk(t *testing.T) {
 		told(impl.Axiom{Kind: impl.AxRole, R: []byte("r")}),
 		told(rel("R", "x", "y")),
 		told(is("X", top)),
-		told(is("x", big)),
-	} {
+		told(sub(roundCon(), top)),
+	}
+}
+
+func TestClausifyOfWhatIsNotOk(t *testing.T) {
+	big := readCon(t, "Some(a Some(b Some(c Some(d Top))))")
+	fine := fullKb()
+	wantCode(t, fine, top, impl.ClWell, "fine")
+	for i, c := range refusedCons() {
+		why := fmt.Sprint("the wrong concept ", i)
+		wantCode(t, impl.Kb{}, c, impl.ClForm, why)
+		wantCode(t, fine, c, impl.ClForm, why)
+		wantCode(t, told(is("x", c)), top, impl.ClForm, why)
+		wantCode(t, told(sub(top, c)), top, impl.ClForm, why)
+		// ClForm comes ahead of ClBig.
+		wantCode(t, told(is("x", c)), big, impl.ClForm, why)
+		wantCode(t, told(is("x", big)), c, impl.ClForm, why)
+	}
+	for i, k := range append(refusedKbs(), told(is("x", big))) {
 		for _, c := range []impl.Con{top, named("A"), big, {Kind: 9}} {
 			wantCode(t, k, c, impl.ClForm, fmt.Sprint("the wrong axioms ", i))
 		}
