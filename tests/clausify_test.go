@@ -307,20 +307,75 @@ func (n *teller) one(of ...string) {
 }
 
 func (n *teller) fact(c impl.Con, who int) {
-	nnf, _ := impl.Nnf(c)
-	if of := n.name(nnf); of != always {
+	if of := n.name(turned(c, false)); of != always {
 		inds := make([]string, impl.MaxWho)
 		inds[who] = of
 		n.list = append(n.list, fact(inds...))
 	}
 }
 
+// turned is Nnf of a concept, or its Opposite, however great it is.
+func turned(c impl.Con, negated bool) impl.Con {
+	switch {
+	case c.Kind == impl.CnNot:
+		return turned(c.Kids[0], !negated)
+	case c.Kind == impl.CnName && negated:
+		return not(c)
+	case c.Kind == impl.CnName:
+		return c
+	}
+	out := impl.Con{Kind: c.Kind, Role: c.Role}
+	if negated {
+		out.Kind = []int{impl.CnBot, impl.CnTop, 0, 0, impl.CnOr, impl.CnAnd, impl.CnAll, impl.CnSome}[c.Kind]
+	}
+	for _, kid := range c.Kids {
+		out.Kids = append(out.Kids, turned(kid, negated))
+	}
+	return out
+}
+
+// rulesByWords takes any number of axioms, of concepts however great.
+func rulesByWords(k impl.Kb) []impl.Con {
+	var list []impl.Con
+	for _, x := range k.L {
+		switch x.Kind {
+		case impl.AxSub:
+			list = append(list, or(turned(x.C, true), turned(x.D, false)))
+		case impl.AxEq:
+			list = append(list, or(turned(x.C, true), turned(x.D, false)), or(turned(x.D, true), turned(x.C, false)))
+		case impl.AxDis:
+			list = append(list, or(turned(x.C, true), turned(x.D, true)))
+		}
+	}
+	return list
+}
+
+// wordsOf are all words of what is told and asked, however much it is.
+func wordsOf(k impl.Kb, c impl.Con) *tally {
+	n := &tally{}
+	addCon := func(c impl.Con) {
+		for _, at := range nodes(&c) {
+			n.names, n.roles = append(n.names, string(at.Name)), append(n.roles, string(at.Role))
+		}
+	}
+	addCon(c)
+	for _, x := range k.L {
+		addCon(x.C)
+		addCon(x.D)
+		n.roles = append(n.roles, string(x.R), string(x.S))
+		n.inds = append(n.inds, string(x.A), string(x.B))
+	}
+	for _, list := range []*[]string{&n.names, &n.roles, &n.inds} {
+		*list = slices.DeleteFunc(eachOfThem(*list), func(s string) bool { return s == "" })
+	}
+	return n
+}
+
 // clausifyByWords is another way to Clausify, by texts, and without a limit.
 func clausifyByWords(k impl.Kb, c impl.Con) *teller {
-	words, _ := readByStack(spellKb(k)+spellAxiom(is("x", c)), wanted{'x', 0})
-	n := &teller{atoms: eachOfThem(words.names), roles: eachOfThem(words.roles), who: texts(impl.KbInds(k))}
-	rules, _ := impl.Rules(k)
-	for _, r := range rules {
+	words := wordsOf(k, c)
+	n := &teller{atoms: words.names, roles: words.roles, who: words.inds}
+	for _, r := range rulesByWords(k) {
 		n.one(n.name(r))
 	}
 	at := func(list []string, word []byte) int { return slices.Index(list, string(word)) }

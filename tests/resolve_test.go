@@ -985,15 +985,18 @@ func wantEndIsTold(t *testing.T, r impl.Run) {
 // wantKeptHolds holds that in a model all that is kept of its clauses that is of all holds.
 func wantKeptHolds(t *testing.T, w impl.World, k impl.Kb, count map[string]int) {
 	t.Helper()
-	s, code := impl.Clausify(k, top)
-	if code != impl.ClWell {
-		return
+	if s, code := impl.Clausify(k, top); code == impl.ClWell {
+		r := impl.Saturate(s.L)
+		if r.Code == impl.RsRefuted {
+			t.Fatalf("%s has the model %v, and is refuted:\n%s", spellKb(k), w, runTextByWords(r))
+		}
+		wantStepsHold(t, w, k, s, r, count)
 	}
-	r := impl.Saturate(s.L)
+}
+
+func wantStepsHold(t *testing.T, w impl.World, k impl.Kb, s impl.Cls, r impl.Run, count map[string]int) {
+	t.Helper()
 	wantEndIsTold(t, r)
-	if r.Code == impl.RsRefuted {
-		t.Fatalf("%s has the model %v, and is refuted:\n%s", spellKb(k), w, runTextByWords(r))
-	}
 	sets := setsOf(w, s)
 	fine := impl.ClsOk(s)
 	for _, step := range r.L {
