@@ -175,7 +175,7 @@ func texts(list [][]byte) []string {
 	return out
 }
 
-// wanted is what may stand next, how deep: 'x' an axiom, 'c' a concept, 'r' a role, 'i' an individual, or a bracket.
+// wanted is what may stand next, how deep: 'x' an axiom, 'q' a question, 'c' a concept, 'r' a role, 'i' an individual, or a bracket.
 type wanted struct {
 	what byte
 	deep int
@@ -188,11 +188,13 @@ type tally struct {
 	parts              []int
 }
 
-var kindOfWanted = map[byte]int{'x': impl.TkUpper, 'c': impl.TkUpper, 'r': impl.TkLower, 'i': impl.TkLower, '(': impl.TkOpen, ')': impl.TkClose}
+var kindOfWanted = map[byte]int{'x': impl.TkUpper, 'q': impl.TkLower, 'c': impl.TkUpper, 'r': impl.TkLower, 'i': impl.TkLower, '(': impl.TkOpen, ')': impl.TkClose}
 
 var behindConcept = map[string]string{"Top": "", "Bot": "", "Not": "(c)", "And": "(cc)", "Or": "(cc)", "Some": "(rc)", "All": "(rc)"}
 
 var behindAxiom = map[string]string{"Sub": "(cc)", "Eq": "(cc)", "Dis": "(cc)", "Role": "(rr)", "Is": "(ic)", "Rel": "(rii)"}
+
+var behindAsk = map[string]string{"sat": "c", "sub": "cc", "is": "ic", "get": "c", "whole": ""}
 
 // meet tells what must stand behind a word of which the kind is right, and whether it may stand there.
 func (n *tally) meet(next wanted, word string) (string, bool) {
@@ -200,6 +202,9 @@ func (n *tally) meet(next wanted, word string) (string, bool) {
 	case 'x':
 		n.axioms++
 		behind, known := behindAxiom[word]
+		return behind, known
+	case 'q':
+		behind, known := behindAsk[word]
 		return behind, known
 	case 'c':
 		if next.deep == 1 {
